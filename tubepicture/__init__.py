@@ -1,0 +1,1 @@
+"""Pictures of what shines."""
