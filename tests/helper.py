@@ -7,9 +7,11 @@ import random
 import re
 from fractions import Fraction
 
-from tubepicture.pictures import bits
+from tubepicture import pictures
 
 ALL_NUMBERS = {"a": 1, "x": 0, "y": 0, "w": 8, "h": 1, "s": 1, "r": 1}
+# The numbers of each call, in their order; behind them stands the text.
+CALLS = {"bits": "axywhsr", "file": "axywhsr"}
 
 
 def text(*lines):
@@ -39,11 +41,16 @@ def short_strokes(count):
     return [[(4 * i, 7), (4 * i + 2, 8)] for i in range(count)]
 
 
-def ask(t=None, **numbers):
-    """bits of the text, with ordinary numbers where none are given."""
+def ask_of(call, t=None, **numbers):
+    """What a call answers of the text, with ordinary numbers where none are given."""
     told = dict(ALL_NUMBERS, **numbers)
-    order = [told[name] for name in ("a", "x", "y", "w", "h", "s", "r")]
-    return bits(*order, list(LINE if t is None else t))
+    order = [told[name] for name in CALLS[call]]
+    return getattr(pictures, call)(*order, list(LINE if t is None else t))
+
+
+def ask(t=None, **numbers):
+    """bits of the text."""
+    return ask_of("bits", t, **numbers)
 
 
 def rows_of(answer, w, h):
@@ -161,3 +168,20 @@ def random_strokes(seed, most=12, size=24):
         if len(pieces_of(strokes + [points])) <= most and plain_judge(drawing(*strokes, points)) is None:
             strokes.append(points)
     return strokes
+
+
+def random_window(source, pieces):
+    """A set of so many pieces, and a window beside or over the strokes of random_strokes."""
+    return {"a": source.getrandbits(pieces), "x": source.randint(-12, 20), "y": source.randint(-12, 20),
+            "w": source.randint(1, 20), "h": source.randint(1, 12), "s": source.randint(1, 3),
+            "r": source.choice((0, 1, 1, 2, 3, 5, 9))}
+
+
+def random_cases(count):
+    """So many drawings, as (strokes, text, numbers of a window)."""
+    cases = []
+    for seed in range(count):
+        strokes = random_strokes(seed)
+        window = random_window(random.Random(seed), len(pieces_of(strokes)))
+        cases.append((strokes, drawing(*strokes), window))
+    return cases

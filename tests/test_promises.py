@@ -3,14 +3,19 @@
 import random
 import unittest
 
-from tests.helper import LINE, ask, drawing, picture, pieces_of, plain_picture, random_strokes, zigzag
-from tubepicture.pictures import bits
+from tests.helper import (ALL_NUMBERS, CALLS, LINE, ask_of, drawing, picture, pieces_of, plain_picture, random_cases,
+                          random_strokes, zigzag)
+from tubepicture import pictures
 
 
-def random_window(source, pieces):
-    return {"a": source.getrandbits(pieces), "x": source.randint(-12, 20), "y": source.randint(-12, 20),
-            "w": source.randint(1, 20), "h": source.randint(1, 12), "s": source.randint(1, 3),
-            "r": source.choice((0, 1, 1, 2, 3, 5, 9))}
+class Untouchable(list):
+    """A list that nobody may change, not for a while either."""
+
+    def refuse(self, *told, **named):
+        raise AssertionError("what is handed in was changed")
+
+    append = clear = extend = insert = pop = remove = reverse = sort = refuse
+    __setitem__ = __delitem__ = __iadd__ = __imul__ = refuse
 
 
 def signs(rows):
@@ -25,11 +30,7 @@ def darker(fewer, more):
 class Promises(unittest.TestCase):
     @classmethod
     def setUpClass(cls):
-        cls.cases = []
-        for seed in range(60):
-            source = random.Random(seed)
-            strokes = random_strokes(seed)
-            cls.cases.append((strokes, drawing(*strokes), random_window(source, len(pieces_of(strokes)))))
+        cls.cases = random_cases(60)
 
     def test_1_and_3_just_the_lit_spots(self):
         seen = ""
@@ -80,34 +81,44 @@ class Promises(unittest.TestCase):
 
 
 class NothingKept(unittest.TestCase):
-    def test_what_is_handed_in_stays(self):
+    """What holds for every call."""
+
+    @classmethod
+    def setUpClass(cls):
         crossed = drawing([(0, 0), (9, 9), (0, 9), (9, 0)])
-        texts = [LINE, drawing(zigzag(64)), [], [10], LINE[:-1], [65] * 65537, crossed]
-        for t in texts:
-            for a, w in ((1, 8), (1, 0), (2 ** 64 - 1, 8)):
-                handed = list(t)
-                bits(a, 0, 0, w, 3, 1, 2, handed)
-                self.assertEqual(handed, t)
+        cls.asked = [(t, window) for strokes, t, window in random_cases(10)]
+        cls.asked += [(t, dict(ALL_NUMBERS, a=a, x=x, w=w))
+                      for t in (LINE, drawing(zigzag(64)), [], [10], LINE[:-1], [65] * 65537, crossed)
+                      for a, x, w in ((1, 0, 8), (1, 2 ** 31 - 1, 0), (2 ** 64 - 1, 0, 8), (0, 0, 8))]
+
+    def test_what_is_handed_in_stays(self):
+        for call, order in CALLS.items():
+            for t, numbers in self.asked:
+                handed = Untouchable(t)
+                getattr(pictures, call)(*[numbers[name] for name in order], handed)
+                self.assertEqual(list(handed), t)
 
     def test_what_is_given_back_is_the_callers(self):
-        first = ask(w=20, h=4)
-        second = ask(w=20, h=4)
-        first.append(9)
-        first[0] = 77
-        self.assertEqual(second, ask(w=20, h=4))
-        refused = ask(w=0)
-        refused.append(1)
-        self.assertEqual(ask(w=0), [-1])
+        for call in CALLS:
+            for t, numbers in self.asked:
+                first = ask_of(call, t, **numbers)
+                kept = list(first)
+                first.append(9)
+                first[0] = 77
+                self.assertEqual(ask_of(call, t, **numbers), kept)
 
     def test_a_second_call_answers_as_the_first(self):
-        calls = []
-        for seed in range(10):
-            strokes = random_strokes(seed)
-            calls.append((drawing(*strokes), random_window(random.Random(seed), len(pieces_of(strokes)))))
-        calls += [([], {}), (LINE, {"w": 0}), (LINE, {"a": 2}), ([9] * 65537, {}), (LINE, {})]
-        first = [ask(t, **window) for t, window in calls]
-        self.assertEqual([ask(t, **window) for t, window in calls], first)
-        self.assertEqual([ask(t, **window) for t, window in reversed(calls)], first[::-1])
+        calls = [(call, t, numbers) for t, numbers in self.asked for call in CALLS]
+        first = [ask_of(call, t, **numbers) for call, t, numbers in calls]
+        self.assertEqual([ask_of(call, t, **numbers) for call, t, numbers in calls], first)
+        self.assertEqual([ask_of(call, t, **numbers) for call, t, numbers in reversed(calls)], first[::-1])
+
+    def test_lists_of_whole_numbers_are_given_back(self):
+        for call in CALLS:
+            for t, numbers in self.asked:
+                answer = ask_of(call, t, **numbers)
+                self.assertIs(type(answer), list)
+                self.assertEqual({type(number) for number in answer}, {int})
 
 
 if __name__ == "__main__":

@@ -2,26 +2,53 @@
 
 from tubepicture.drawings import judge
 from tubepicture.glow import has_missing_piece, pieces_of_set
-from tubepicture.windows import Window, is_right, picture_bytes
+from tubepicture.windows import Window, file_bytes, is_right, picture_bytes
 
 MOST_BYTES = 65536
+NOT_REFUSED = 0
 WRONG_PLACE = -1
 TEXT_TOO_LONG = -2
 NO_SUCH_PIECE = -4
 NO_DRAWING = -6
 
 
-def bits(a, x, y, w, h, s, r, t):
-    """How many bytes the window's picture of the set has, then these; or a refusal alone."""
+class Looked:
+    """What a look at a call shows: the drawing's pieces, and NOT_REFUSED; or no pieces, and the first refusal."""
+
+    def __init__(self, refusal, pieces):
+        self.refusal = refusal
+        self.pieces = pieces
+
+
+def look(a, t, place_fits):
+    """Look at a call's text, place and set, in the order in which what is wrong is refused."""
     if len(t) > MOST_BYTES:
-        return [TEXT_TOO_LONG]
+        return Looked(TEXT_TOO_LONG, [])
     judged = judge(t)
     if judged.kind != 0:
-        return [NO_DRAWING]
-    window = Window(x, y, w, h, s, r)
-    if not is_right(window):
-        return [WRONG_PLACE]
+        return Looked(NO_DRAWING, [])
+    if not place_fits:
+        return Looked(WRONG_PLACE, [])
     if has_missing_piece(a, judged.pieces):
-        return [NO_SUCH_PIECE]
-    picture = picture_bytes(window, pieces_of_set(a, judged.pieces))
+        return Looked(NO_SUCH_PIECE, [])
+    return Looked(NOT_REFUSED, judged.pieces)
+
+
+def bits(a, x, y, w, h, s, r, t):
+    """How many bytes the window's picture of the set has, then these; or a refusal alone."""
+    window = Window(x, y, w, h, s, r)
+    looked = look(a, t, is_right(window))
+    if looked.refusal != NOT_REFUSED:
+        return [looked.refusal]
+    picture = picture_bytes(window, pieces_of_set(a, looked.pieces))
     return [len(picture)] + picture
+
+
+def file(a, x, y, w, h, s, r, t):
+    """How many bytes the window's picture of the set has as a file, then these; or a refusal alone."""
+    window = Window(x, y, w, h, s, r)
+    looked = look(a, t, is_right(window))
+    if looked.refusal != NOT_REFUSED:
+        return [looked.refusal]
+    written = file_bytes(window, pieces_of_set(a, looked.pieces))
+    return [len(written)] + written

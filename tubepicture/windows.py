@@ -1,6 +1,7 @@
 """Windows, and their pictures."""
 
 from tubepicture.glow import is_lit
+from tubepicture.spelling import spelled
 
 MOST_SPOTS = 64
 WIDEST_STEP = 64
@@ -58,3 +59,15 @@ def picture_bytes(window, shining):
         for start in range(0, window.columns, BITS_OF_A_BYTE):
             picture.append(picture_byte(window, shining, start, row))
     return picture
+
+
+def file_head(window):
+    """The bytes of a file before its picture."""
+    columns = window.columns
+    rows = window.rows
+    return spelled(f"P4\n{columns} {rows}\n")
+
+
+def file_bytes(window, shining):
+    """A window's picture as a file."""
+    return file_head(window) + picture_bytes(window, shining)
