@@ -3,6 +3,7 @@
 The answers here are found in another way than the program's: by points as fractions and by patterns.
 """
 
+import functools
 import random
 import re
 from fractions import Fraction
@@ -11,7 +12,7 @@ from tubepicture import pictures
 
 ALL_NUMBERS = {"a": 1, "x": 0, "y": 0, "w": 8, "h": 1, "s": 1, "r": 1}
 # The numbers of each call, in their order; behind them stands the text.
-CALLS = {"bits": "axywhsr", "file": "axywhsr"}
+CALLS = {"bits": "axywhsr", "file": "axywhsr", "count": "axywhsr"}
 
 
 def text(*lines):
@@ -177,11 +178,12 @@ def random_window(source, pieces):
             "r": source.choice((0, 1, 1, 2, 3, 5, 9))}
 
 
+@functools.cache
 def random_cases(count):
-    """So many drawings, as (strokes, text, numbers of a window)."""
+    """So many drawings, as (strokes, text, numbers of a window); kept, as they take long to find."""
     cases = []
     for seed in range(count):
         strokes = random_strokes(seed)
         window = random_window(random.Random(seed), len(pieces_of(strokes)))
         cases.append((strokes, drawing(*strokes), window))
-    return cases
+    return tuple(cases)

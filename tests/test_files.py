@@ -52,7 +52,7 @@ class Files(unittest.TestCase):
             self.check(drawing(zigzag(64, 9)), a=a, x=200, y=-3, w=64, h=17, s=1, r=1)
 
     def test_many_drawings_sets_and_windows(self):
-        for strokes, t, window in random_cases(80):
+        for strokes, t, window in random_cases(60):
             self.check(t, **window)
 
 

@@ -138,5 +138,16 @@ class FileRefusals(Refusals, unittest.TestCase):
         self.assertEqual(self.asked(a=0), [8, *b"P4\n8 1\n", 0])
 
 
+class CountRefusals(Refusals, unittest.TestCase):
+    call = "count"
+    limits = WINDOW_LIMITS
+
+    def has_form(self, answer):
+        return answer[0] == 0 and len(answer) == 2 and answer[1] >= 0
+
+    def test_the_set_0_is_no_refusal(self):
+        self.assertEqual(self.asked(a=0), [0, 0])
+
+
 if __name__ == "__main__":
     unittest.main()

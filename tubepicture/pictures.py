@@ -2,7 +2,7 @@
 
 from tubepicture.drawings import judge
 from tubepicture.glow import has_missing_piece, pieces_of_set
-from tubepicture.windows import Window, file_bytes, is_right, picture_bytes
+from tubepicture.windows import Window, count_lit, file_bytes, is_right, picture_bytes
 
 MOST_BYTES = 65536
 NOT_REFUSED = 0
@@ -52,3 +52,12 @@ def file(a, x, y, w, h, s, r, t):
         return [looked.refusal]
     written = file_bytes(window, pieces_of_set(a, looked.pieces))
     return [len(written)] + written
+
+
+def count(a, x, y, w, h, s, r, t):
+    """0, then how many of the window's spots the set lights; or a refusal alone."""
+    window = Window(x, y, w, h, s, r)
+    looked = look(a, t, is_right(window))
+    if looked.refusal != NOT_REFUSED:
+        return [looked.refusal]
+    return [0, count_lit(window, pieces_of_set(a, looked.pieces))]

@@ -71,3 +71,13 @@ def file_head(window):
 def file_bytes(window, shining):
     """A window's picture as a file."""
     return file_head(window) + picture_bytes(window, shining)
+
+
+def count_lit(window, shining):
+    """How many of a window's spots are lit."""
+    total = 0
+    for row in range(window.rows):
+        for column in range(window.columns):
+            if is_lit_at(window, shining, column, row):
+                total = total + 1
+    return total
