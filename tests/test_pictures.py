@@ -3,7 +3,7 @@
 import unittest
 from fractions import Fraction
 
-from tests.helper import LINE, ask, drawing, picture, plain_picture, plain_square, short_strokes, zigzag
+from tests.helper import LINE, ask, ask_of, drawing, picture, plain_picture, plain_square, short_strokes, zigzag
 
 # The door hangs a little above the floor: its feet must not stand in the midst of a piece.
 HOUSE = [[(2, 9), (2, 4), (6, 1), (10, 4), (10, 9), (2, 9)], [(5, 8), (5, 6), (7, 6), (7, 8)]]
@@ -82,11 +82,12 @@ class Ordinary(unittest.TestCase):
 
 
 class Reach(unittest.TestCase):
-    """Distances that are just the reach, and just beyond it."""
+    """Distances that are just the reach, and just beyond it: what bits shows, lit tells too."""
 
     def lit(self, points, x, y, r):
         answer = ask(drawing(points), x=x, y=y, w=1, h=1, s=1, r=r)
         self.assertIn(answer, ([1, 0], [1, 128]))
+        self.assertEqual(ask_of("lit", drawing(points), x=x, y=y, r=r), [answer[1] // 128])
         return answer == [1, 128]
 
     def just(self, points, x, y, r):

@@ -6,6 +6,7 @@ import unittest
 from tests.helper import LINE, ask, ask_of, drawing, short_strokes, text, zigzag
 
 WINDOW_LIMITS = {"x": (-4096, 4095), "y": (-4096, 4095), "w": (1, 64), "h": (1, 64), "s": (1, 64), "r": (0, 4095)}
+SPOT_LIMITS = {"x": (-65536, 65535), "y": (-65536, 65535), "r": (0, 4095)}
 FARTHEST = {"x": (-2 ** 31, 2 ** 31 - 1), "y": (-2 ** 31, 2 ** 31 - 1), "w": (0, 2 ** 32 - 1),
             "h": (0, 2 ** 32 - 1), "s": (0, 2 ** 32 - 1), "r": (0, 2 ** 32 - 1)}
 LONG = [65] * 65537
@@ -147,6 +148,21 @@ class CountRefusals(Refusals, unittest.TestCase):
 
     def test_the_set_0_is_no_refusal(self):
         self.assertEqual(self.asked(a=0), [0, 0])
+
+
+class LitRefusals(Refusals, unittest.TestCase):
+    call = "lit"
+    limits = SPOT_LIMITS
+
+    def has_form(self, answer):
+        return answer in ([0], [1])
+
+    def test_the_set_0_is_no_refusal(self):
+        self.assertEqual(self.asked(a=0), [0])
+
+    def test_spots_beside_all_windows_are_no_refusal(self):
+        for x, y in ((-4097, 0), (4096, 0), (0, -4097), (0, 4096), (9000, -9000)):
+            self.assertEqual(self.asked(x=x, y=y, r=1), [0])
 
 
 if __name__ == "__main__":

@@ -2,6 +2,20 @@
 
 from tubepicture.pieces import distance_square
 
+GREATEST_REACH = 4095
+LEAST_PLACE = -65536
+GREATEST_PLACE = 65535
+
+
+def is_right_reach(reach):
+    """Whether a reach is within its limits."""
+    return 0 <= reach <= GREATEST_REACH
+
+
+def is_right_spot(x, y):
+    """Whether a spot that is asked for by itself is within its limits."""
+    return LEAST_PLACE <= x <= GREATEST_PLACE and LEAST_PLACE <= y <= GREATEST_PLACE
+
 
 def has_missing_piece(a, pieces):
     """Whether the set a has a piece that there isn't."""

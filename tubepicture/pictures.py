@@ -1,7 +1,7 @@
 """The calls."""
 
 from tubepicture.drawings import judge
-from tubepicture.glow import has_missing_piece, pieces_of_set
+from tubepicture.glow import has_missing_piece, is_lit, is_right_reach, is_right_spot, pieces_of_set
 from tubepicture.windows import Window, count_lit, file_bytes, is_right, picture_bytes
 
 MOST_BYTES = 65536
@@ -61,3 +61,13 @@ def count(a, x, y, w, h, s, r, t):
     if looked.refusal != NOT_REFUSED:
         return [looked.refusal]
     return [0, count_lit(window, pieces_of_set(a, looked.pieces))]
+
+
+def lit(a, x, y, r, t):
+    """1 if the set lights the spot, else 0; or a refusal alone."""
+    looked = look(a, t, is_right_spot(x, y) and is_right_reach(r))
+    if looked.refusal != NOT_REFUSED:
+        return [looked.refusal]
+    if is_lit(x, y, pieces_of_set(a, looked.pieces), r):
+        return [1]
+    return [0]

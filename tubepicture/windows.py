@@ -1,13 +1,12 @@
 """Windows, and their pictures."""
 
-from tubepicture.glow import is_lit
+from tubepicture.glow import is_lit, is_right_reach
 from tubepicture.spelling import spelled
 
 MOST_SPOTS = 64
 WIDEST_STEP = 64
 LEAST_CORNER = -4096
 GREATEST_CORNER = 4095
-GREATEST_REACH = 4095
 BITS_OF_A_BYTE = 8
 
 
@@ -29,8 +28,7 @@ def is_right(window):
     x_fits = LEAST_CORNER <= window.x <= GREATEST_CORNER
     y_fits = LEAST_CORNER <= window.y <= GREATEST_CORNER
     step_fits = 1 <= window.step <= WIDEST_STEP
-    reach_fits = 0 <= window.reach <= GREATEST_REACH
-    return size_fits and x_fits and y_fits and step_fits and reach_fits
+    return size_fits and x_fits and y_fits and step_fits and is_right_reach(window.reach)
 
 
 def is_lit_at(window, shining, column, row):
