@@ -12,7 +12,7 @@ from tubepicture import pictures
 
 ALL_NUMBERS = {"a": 1, "x": 0, "y": 0, "w": 8, "h": 1, "s": 1, "r": 1}
 # The numbers of each call, in their order; behind them stands the text.
-CALLS = {"bits": "axywhsr", "file": "axywhsr", "count": "axywhsr", "lit": "axyr"}
+CALLS = {"bits": "axywhsr", "file": "axywhsr", "count": "axywhsr", "lit": "axyr", "near": "axy"}
 
 
 def text(*lines):

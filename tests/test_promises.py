@@ -3,19 +3,7 @@
 import random
 import unittest
 
-from tests.helper import (ALL_NUMBERS, CALLS, LINE, ask_of, drawing, picture, pieces_of, plain_picture, random_cases,
-                          random_strokes, zigzag)
-from tubepicture import pictures
-
-
-class Untouchable(list):
-    """A list that nobody may change, not for a while either."""
-
-    def refuse(self, *told, **named):
-        raise AssertionError("what is handed in was changed")
-
-    append = clear = extend = insert = pop = remove = reverse = sort = refuse
-    __setitem__ = __delitem__ = __iadd__ = __imul__ = refuse
+from tests.helper import drawing, picture, pieces_of, plain_picture, random_cases, random_strokes
 
 
 def signs(rows):
@@ -78,47 +66,6 @@ class Promises(unittest.TestCase):
                 moved = dict(window, x=window["x"] + i * window["s"], y=window["y"] + j * window["s"],
                              w=window["w"] - i, h=window["h"] - j)
                 self.assertEqual(picture(t, **moved), [row[i:] for row in rows[j:]])
-
-
-class NothingKept(unittest.TestCase):
-    """What holds for every call."""
-
-    @classmethod
-    def setUpClass(cls):
-        crossed = drawing([(0, 0), (9, 9), (0, 9), (9, 0)])
-        cls.asked = [(t, window) for strokes, t, window in random_cases(10)]
-        cls.asked += [(t, dict(ALL_NUMBERS, a=a, x=x, w=w))
-                      for t in (LINE, drawing(zigzag(64)), [], [10], LINE[:-1], [65] * 65537, crossed)
-                      for a, x, w in ((1, 0, 8), (1, 2 ** 31 - 1, 0), (2 ** 64 - 1, 0, 8), (0, 0, 8))]
-
-    def test_what_is_handed_in_stays(self):
-        for call, order in CALLS.items():
-            for t, numbers in self.asked:
-                handed = Untouchable(t)
-                getattr(pictures, call)(*[numbers[name] for name in order], handed)
-                self.assertEqual(list(handed), t)
-
-    def test_what_is_given_back_is_the_callers(self):
-        for call in CALLS:
-            for t, numbers in self.asked:
-                first = ask_of(call, t, **numbers)
-                kept = list(first)
-                first.append(9)
-                first[0] = 77
-                self.assertEqual(ask_of(call, t, **numbers), kept)
-
-    def test_a_second_call_answers_as_the_first(self):
-        calls = [(call, t, numbers) for t, numbers in self.asked for call in CALLS]
-        first = [ask_of(call, t, **numbers) for call, t, numbers in calls]
-        self.assertEqual([ask_of(call, t, **numbers) for call, t, numbers in calls], first)
-        self.assertEqual([ask_of(call, t, **numbers) for call, t, numbers in reversed(calls)], first[::-1])
-
-    def test_lists_of_whole_numbers_are_given_back(self):
-        for call in CALLS:
-            for t, numbers in self.asked:
-                answer = ask_of(call, t, **numbers)
-                self.assertIs(type(answer), list)
-                self.assertEqual({type(number) for number in answer}, {int})
 
 
 if __name__ == "__main__":

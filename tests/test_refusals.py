@@ -165,5 +165,26 @@ class LitRefusals(Refusals, unittest.TestCase):
             self.assertEqual(self.asked(x=x, y=y, r=1), [0])
 
 
+class NearRefusals(Refusals, unittest.TestCase):
+    call = "near"
+    limits = {"x": SPOT_LIMITS["x"], "y": SPOT_LIMITS["y"]}
+
+    def has_form(self, answer):
+        return len(answer) == 4 and answer[0] >= 0 and answer[1] >= 0 and answer[2] > 0 and answer[3] in (0, 1, 2)
+
+    def wrongs(self):
+        return {**super().wrongs(), -5: [{"a": 0}]}
+
+    def test_a_set_of_no_pieces(self):
+        for t in (LINE, drawing(zigzag(64)), drawing(*short_strokes(64))):
+            self.refused(-5, t, a=0)
+            self.refused(-5, t, a=0, x=-65536, y=65535)
+
+    def test_a_set_of_no_pieces_comes_last(self):
+        self.refused(-2, LONG, a=0)
+        self.refused(-1, a=0, x=65536)
+        self.refused(-1, a=0, y=-65537)
+
+
 if __name__ == "__main__":
     unittest.main()

@@ -1,7 +1,10 @@
 """The calls."""
 
 from tubepicture.drawings import judge
-from tubepicture.glow import has_missing_piece, is_lit, is_right_reach, is_right_spot, pieces_of_set
+from tubepicture.glow import has_missing_piece, is_lit, is_right_reach, is_right_spot
+from tubepicture.glow import nearest_number, numbers_of_set, pieces_of_set
+from tubepicture.pieces import distance_square, nearest_point
+from tubepicture.squares import lowest_terms
 from tubepicture.windows import Window, count_lit, file_bytes, is_right, picture_bytes
 
 MOST_BYTES = 65536
@@ -9,6 +12,7 @@ NOT_REFUSED = 0
 WRONG_PLACE = -1
 TEXT_TOO_LONG = -2
 NO_SUCH_PIECE = -4
+EMPTY_SET = -5
 NO_DRAWING = -6
 
 
@@ -71,3 +75,16 @@ def lit(a, x, y, r, t):
     if is_lit(x, y, pieces_of_set(a, looked.pieces), r):
         return [1]
     return [0]
+
+
+def near(a, x, y, t):
+    """The number of the set's piece nearest to the spot, its distance's square, which point; or a refusal alone."""
+    looked = look(a, t, is_right_spot(x, y))
+    if looked.refusal != NOT_REFUSED:
+        return [looked.refusal]
+    numbers = numbers_of_set(a, looked.pieces)
+    if len(numbers) == 0:
+        return [EMPTY_SET]
+    number = nearest_number(numbers, looked.pieces, x, y)
+    piece = looked.pieces[number]
+    return [number] + lowest_terms(distance_square(piece, x, y)) + [nearest_point(piece, x, y)]

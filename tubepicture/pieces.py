@@ -1,5 +1,9 @@
 """Pieces: straight lines between two points, how they meet and how far spots are from them."""
 
+FIRST_END = 0
+SECOND_END = 1
+BETWEEN = 2
+
 
 class Piece:
     """The straight line from its first end (ax, ay) to its second end (bx, by)."""
@@ -31,16 +35,25 @@ def aside(piece, x, y):
     return (piece.bx - piece.ax) * (y - piece.ay) - (piece.by - piece.ay) * (x - piece.ax)
 
 
-def distance_square(piece, x, y):
-    """The square of a spot's distance from a piece as a fraction (above, below), not in lowest terms."""
-    length = length_square(piece)
+def nearest_point(piece, x, y):
+    """Which of a piece's points is nearest to a spot: FIRST_END, SECOND_END or BETWEEN them."""
     way = along(piece, x, y)
     if way <= 0:
+        return FIRST_END
+    if way >= length_square(piece):
+        return SECOND_END
+    return BETWEEN
+
+
+def distance_square(piece, x, y):
+    """The square of a spot's distance from a piece as a fraction (above, below), not in lowest terms."""
+    point = nearest_point(piece, x, y)
+    if point == FIRST_END:
         return (square_between(piece.ax, piece.ay, x, y), 1)
-    if way >= length:
+    if point == SECOND_END:
         return (square_between(piece.bx, piece.by, x, y), 1)
     side = aside(piece, x, y)
-    return (side * side, length)
+    return (side * side, length_square(piece))
 
 
 def ends_at(piece, x, y):

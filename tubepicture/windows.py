@@ -1,4 +1,4 @@
-"""Windows, and their pictures."""
+"""Windows, their pictures, and these as files."""
 
 from tubepicture.glow import is_lit, is_right_reach
 from tubepicture.spelling import spelled
